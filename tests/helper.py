@@ -1,0 +1,124 @@
+"""What the tests share: doubles by name, and the answers as the machine's own doubles give them."""
+
+import math
+import struct
+
+PLUS_ZERO = 0x0000000000000000
+MINUS_ZERO = 0x8000000000000000
+LEAST = 0x0000000000000001
+GREATEST = 0x7FEFFFFFFFFFFFFF
+
+NOT_FINITE = [
+    0x7FF0000000000000,  # infinity
+    0xFFF0000000000000,
+    0x7FF8000000000000,  # quiet NaNs
+    0xFFF8000000000000,
+    0x7FF0000000000001,  # signalling NaNs
+    0xFFF0000000000001,
+    0x7FFFFFFFFFFFFFFF,
+    0xFFFFFFFFFFFFFFFF,
+    0x7FF4000000000123,
+]
+
+# Sizes at which something changes: zeros, subnormals, ties, squares that vanish or overflow.
+SIZES = [
+    0x0000000000000000,
+    0x0000000000000001,
+    0x0000000000000003,
+    0x000FFFFFFFFFFFFF,
+    0x0010000000000000,
+    0x0010000000000001,
+    0x1E50000000000000,  # 2 to the power of -538, its square rounds to 0
+    0x1E60000000000000,  # 2 to the power of -537, its square is the least double
+    0x3FD5555555555555,
+    0x3FE0000000000000,
+    0x3FF0000000000000,
+    0x3FF0000000000001,
+    0x3FF8000000000000,
+    0x4340000000000000,  # 2 to the power of 53
+    0x5FF0000000000000,  # 2 to the power of 512, its square overflows
+    0x7FE0000000000000,
+    0x7FEFFFFFFFFFFFFF,
+]
+
+
+def bits(x):
+    return struct.unpack("<Q", struct.pack("<d", x))[0]
+
+
+def double(part):
+    return struct.unpack("<d", struct.pack("<Q", part))[0]
+
+
+def row(*xs):
+    return [bits(float(x)) for x in xs]
+
+
+def either_sign(sizes):
+    return [sign | size for size in sizes for sign in (PLUS_ZERO, MINUS_ZERO)]
+
+
+class Refused(Exception):
+    pass
+
+
+def checked(x):
+    if not math.isfinite(x):
+        raise Refused()
+    return x
+
+
+def quotient_of_parts(x, y):
+    if y == 0:
+        raise Refused()
+    return checked(x / y)
+
+
+def expected_product(a, b):
+    p, q, r, s = [double(part) for part in a + b]
+    real = checked(checked(p * r) - checked(q * s))
+    imaginary = checked(checked(p * s) + checked(q * r))
+    return [bits(real), bits(imaginary)]
+
+
+def expected_quotient(a, b):
+    p, q, r, s = [double(part) for part in a + b]
+    m = checked(checked(r * r) + checked(s * s))
+    real = quotient_of_parts(checked(checked(p * r) + checked(q * s)), m)
+    imaginary = quotient_of_parts(checked(checked(q * r) - checked(p * s)), m)
+    return [bits(real), bits(imaginary)]
+
+
+def expected(one, a, b):
+    """The whole answer, `one` being expected_product or expected_quotient."""
+    if not all(math.isfinite(double(part)) for part in a + b):
+        return [-2]
+    answer = [0]
+    try:
+        for i in range(0, len(a), 2):
+            answer += one(a[i:i + 2], b[i:i + 2])
+    except Refused:
+        return [-3]
+    return answer
+
+
+class Parts:
+    """Finite parts in a fixed order that follows no plan (a linear congruential generator)."""
+
+    def __init__(self, seed):
+        self.state = seed
+
+    def whole(self, below):
+        self.state = (self.state * 6364136223846793005 + 1442695040888963407) % 2 ** 64
+        return (self.state >> 20) % below
+
+    def part(self, least_exponent, greatest_exponent):
+        exponent = least_exponent + self.whole(greatest_exponent - least_exponent + 1)
+        fraction = self.whole(2 ** 26) << 26 | self.whole(2 ** 26)
+        if self.whole(2):
+            # Short fractions make ties and exact results frequent.
+            fraction = fraction >> 40 << 40
+        return self.whole(2) << 63 | exponent << 52 | fraction
+
+    def row(self, length, least_exponent, greatest_exponent):
+        return [self.part(least_exponent, greatest_exponent) for i in range(length)]
