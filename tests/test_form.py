@@ -13,7 +13,7 @@ ALLOWED_STATEMENTS = (
 )
 
 FORBIDDEN_EXPRESSIONS = (
-    ast.Lambda, ast.SetComp, ast.DictComp, ast.GeneratorExp, ast.NamedExpr, ast.Starred, ast.Div,
+    ast.SetComp, ast.DictComp, ast.GeneratorExp, ast.NamedExpr, ast.Starred, ast.Div,
     ast.Await, ast.Yield, ast.YieldFrom,
 )
 
@@ -22,7 +22,12 @@ FORBIDDEN_WORDS = re.compile(
     r"|namedtuple|NamedTuple|TypedDict|TYPE_CHECKING|abstractmethod)\b|dataclass|overload|contextmanager"
 )
 
-BUILTINS = {"len", "range", "all", "max", "ArithmeticError"}
+BUILTINS = set(
+    "len range enumerate zip min max sum abs sorted reversed int str bool list tuple dict set frozenset"
+    " isinstance ord repr any all divmod Exception ValueError TypeError KeyError IndexError LookupError"
+    " ZeroDivisionError ArithmeticError OverflowError RuntimeError NotImplementedError AttributeError"
+    " StopIteration".split()
+)
 
 
 def files():

@@ -13,7 +13,9 @@ OVERFLOWING = {product: (row(1e200, 0), row(1e200, 0)), quotient: (row(1, 1), ro
 class BothCallsTest(unittest.TestCase):
     def check(self, a, b):
         for call, one in CALLS:
-            self.assertEqual(call(a, b), helper.expected(one, a, b), (call.__name__, a, b))
+            answer = call(a, b)
+            # Not assertEqual: the difference of two long lists takes it minutes to tell.
+            self.assertTrue(answer == helper.expected(one, a, b), (call.__name__, a, b, answer))
 
     def test_empty_rows(self):
         self.assertEqual(product([], []), [0])
@@ -30,13 +32,14 @@ class BothCallsTest(unittest.TestCase):
 
     def test_longest_row(self):
         for call, one in CALLS:
-            self.assertEqual(call(row(3, 4) * 4096, row(1, 0) * 4096), [0] + row(3, 4) * 4096)
-            self.assertEqual(call(row(3, 4) * 4097, row(1, 0) * 4097), [-2])
+            answer = call(row(3, 4) * 4096, row(1, 0) * 4096)
+            self.assertTrue(answer == [0] + row(3, 4) * 4096, call.__name__)
+            self.assertTrue(call(row(3, 4) * 4097, row(1, 0) * 4097) == [-2], call.__name__)
 
     def test_too_long_comes_ahead_of_overflow(self):
         for call, one in CALLS:
             a, b = OVERFLOWING[call]
-            self.assertEqual(call(a * 4097, b * 4097), [-2])
+            self.assertTrue(call(a * 4097, b * 4097) == [-2], call.__name__)
 
     def test_parts_of_near_sizes(self):
         parts = helper.Parts(12)
