@@ -63,8 +63,13 @@ def add(x, y):
     return nearest(total, 1)
 
 
+# The sign alone is turned, also a zero's.
+def negative(x):
+    return x ^ SIGN
+
+
 def subtract(x, y):
-    return add(x, y ^ SIGN)
+    return add(x, negative(y))
 
 
 def multiply(x, y):

@@ -3,52 +3,63 @@
 A row is a list of parts' bits, two for each number, the real part's first.
 """
 
-from complexrows.doubles import NoFiniteResult, add, divide, is_finite, multiply, subtract
+from complexrows.arithmetic import conjugate, divided_by, plus, times, turned
+from complexrows.doubles import NoFiniteResult, is_finite
 
 MOST_NUMBERS = 4096
+
+
+def numbers_of(row):
+    return [row[i:i + 2] for i in range(0, len(row), 2)]
+
+
+def parts_of(numbers):
+    parts = []
+    for number in numbers:
+        parts.extend(number)
+    return parts
 
 
 def all_finite(row):
     return all([is_finite(part) for part in row])
 
 
-def times(x, y):
-    p = x[0]
-    q = x[1]
-    r = y[0]
-    s = y[1]
-    real = subtract(multiply(p, r), multiply(q, s))
-    imaginary = add(multiply(p, s), multiply(q, r))
-    return [real, imaginary]
+# Compute answers with numbers. It is called last, as -2 comes ahead of -3.
+def answer(in_range, rows, compute):
+    if not in_range or not all([all_finite(row) for row in rows]):
+        return [-2]
+    try:
+        return [0] + parts_of(compute())
+    except NoFiniteResult:
+        return [-3]
 
 
-def divided_by(x, y):
-    p = x[0]
-    q = x[1]
-    r = y[0]
-    s = y[1]
-    m = add(multiply(r, r), multiply(s, s))
-    real = divide(add(multiply(p, r), multiply(q, s)), m)
-    imaginary = divide(subtract(multiply(q, r), multiply(p, s)), m)
-    return [real, imaginary]
+def not_too_long(row):
+    return len(row) // 2 <= MOST_NUMBERS
 
 
 def one_by_one(operation, a, b):
-    # Both rows are looked through before anything is computed, as -2 comes ahead of -3.
-    if len(a) // 2 > MOST_NUMBERS or not all_finite(a) or not all_finite(b):
-        return [-2]
-    answer = [0]
-    try:
-        for i in range(0, len(a), 2):
-            answer.extend(operation(a[i:i + 2], b[i:i + 2]))
-    except NoFiniteResult:
-        return [-3]
-    return answer
+    return [operation(x, y) for x, y in zip(numbers_of(a), numbers_of(b))]
 
 
 def product(a, b):
-    return one_by_one(times, a, b)
+    return answer(not_too_long(a), [a, b], lambda: one_by_one(times, a, b))
 
 
 def quotient(a, b):
-    return one_by_one(divided_by, a, b)
+    return answer(not_too_long(a), [a, b], lambda: one_by_one(divided_by, a, b))
+
+
+def turn(k, a):
+    return answer(not_too_long(a), [a], lambda: [turned(x, k % 4) for x in numbers_of(a)])
+
+
+def sum_of_products(a, b):
+    total = [0, 0]
+    for x, y in zip(numbers_of(a), numbers_of(b)):
+        total = plus(total, times(x, conjugate(y)))
+    return total
+
+
+def dot(a, b):
+    return answer(not_too_long(a), [a, b], lambda: [sum_of_products(a, b)])

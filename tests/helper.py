@@ -74,32 +74,51 @@ def quotient_of_parts(x, y):
     return checked(x / y)
 
 
-def expected_product(a, b):
-    p, q, r, s = [double(part) for part in a + b]
-    real = checked(checked(p * r) - checked(q * s))
-    imaginary = checked(checked(p * s) + checked(q * r))
-    return [bits(real), bits(imaginary)]
+def machine_plus(x, y):
+    return checked(x[0] + y[0]), checked(x[1] + y[1])
 
 
-def expected_quotient(a, b):
-    p, q, r, s = [double(part) for part in a + b]
+def machine_times(x, y):
+    (p, q), (r, s) = x, y
+    return checked(checked(p * r) - checked(q * s)), checked(checked(p * s) + checked(q * r))
+
+
+def machine_by(x, y):
+    (p, q), (r, s) = x, y
     m = checked(checked(r * r) + checked(s * s))
     real = quotient_of_parts(checked(checked(p * r) + checked(q * s)), m)
     imaginary = quotient_of_parts(checked(checked(q * r) - checked(p * s)), m)
-    return [bits(real), bits(imaginary)]
+    return real, imaginary
 
 
-def expected(one, a, b):
-    """The whole answer, `one` being expected_product or expected_quotient."""
-    if not all(math.isfinite(double(part)) for part in a + b):
+def machine_numbers(parts):
+    return [(double(parts[i]), double(parts[i + 1])) for i in range(0, len(parts), 2)]
+
+
+def expected(compute, *rows):
+    """The whole answer, `compute` making numbers of the machine's doubles of such numbers."""
+    if not all(math.isfinite(double(part)) for parts in rows for part in parts):
         return [-2]
-    answer = [0]
     try:
-        for i in range(0, len(a), 2):
-            answer += one(a[i:i + 2], b[i:i + 2])
+        numbers = compute(*[machine_numbers(parts) for parts in rows])
     except Refused:
         return [-3]
-    return answer
+    return [0] + [bits(x) for number in numbers for x in number]
+
+
+def machine_product(a, b):
+    return [machine_times(x, y) for x, y in zip(a, b)]
+
+
+def machine_quotient(a, b):
+    return [machine_by(x, y) for x, y in zip(a, b)]
+
+
+def machine_dot(a, b):
+    s = (0.0, 0.0)
+    for x, (r, t) in zip(a, b):
+        s = machine_plus(s, machine_times(x, (r, -t)))
+    return [s]
 
 
 class Parts:

@@ -4,7 +4,7 @@ from complexrows.rows import product, quotient
 from tests import helper
 from tests.helper import MINUS_ZERO, NOT_FINITE, PLUS_ZERO, row
 
-CALLS = [(product, helper.expected_product), (quotient, helper.expected_quotient)]
+CALLS = [(product, helper.machine_product), (quotient, helper.machine_quotient)]
 
 # A pair of numbers for each call that gives -3.
 OVERFLOWING = {product: (row(1e200, 0), row(1e200, 0)), quotient: (row(1, 1), row(0, 0))}

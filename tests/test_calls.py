@@ -1,0 +1,128 @@
+"""What holds of every call alike: its arguments, its kinds, and what it leaves as it was."""
+
+import inspect
+import unittest
+
+from complexrows import rows
+from tests.helper import NOT_FINITE, row
+
+ARGUMENTS = {
+    "product": ["a", "b"],
+    "quotient": ["a", "b"],
+    "turn": ["k", "a"],
+    "dot": ["a", "b"],
+}
+
+# Of each call: what it is handed, and the number that it answers first.
+SAMPLES = {
+    "product": [
+        ((row(1, 2, 3, 4), row(5, 6, -7, 8)), 0),
+        (([], []), 0),
+        ((row(1, 2, 1e200, 0, 3, 4), row(5, 6, 1e200, 0, 7, 8)), -3),
+    ],
+    "quotient": [
+        ((row(1, 2, 3, 4), row(5, 6, -7, 8)), 0),
+        (([], []), 0),
+        ((row(1, 2, 1, 1, 3, 4), row(5, 6, 0, 0, 7, 8)), -3),
+    ],
+    "turn": [
+        ((0, row(1, 2, 3, -4)), 0),
+        ((1, row(1, 2, 3, -4)), 0),
+        ((2, row(1, 2, 3, -4)), 0),
+        ((-1, row(1, 2, 3, -4)), 0),
+        ((7, []), 0),
+    ],
+    "dot": [
+        ((row(1, 2, 3, 4), row(5, 6, -7, 8)), 0),
+        (([], []), 0),
+        ((row(1, 2, 1e200, 0, 3, 4), row(5, 6, 1e200, 0, 7, 8)), -3),
+    ],
+}
+
+
+class Unchangeable(list):
+    """A list that can't be changed, not for a while either."""
+
+    def refuse(self, *arguments, **named):
+        raise AssertionError("a list that was handed in is changed")
+
+    append = clear = extend = insert = pop = remove = reverse = sort = refuse
+    __setitem__ = __delitem__ = __iadd__ = __imul__ = refuse
+
+
+def samples():
+    for name in SAMPLES:
+        for arguments, first in SAMPLES[name]:
+            yield name, getattr(rows, name), arguments, first
+
+
+def copied(arguments):
+    return [list(argument) if isinstance(argument, list) else argument for argument in arguments]
+
+
+class EveryCallTest(unittest.TestCase):
+    def test_every_call_has_samples(self):
+        self.assertEqual(list(SAMPLES), list(ARGUMENTS))
+
+    def test_arguments(self):
+        for name in ARGUMENTS:
+            parameters = inspect.signature(getattr(rows, name)).parameters.values()
+            self.assertEqual([parameter.name for parameter in parameters], ARGUMENTS[name], name)
+            for parameter in parameters:
+                self.assertIs(parameter.default, parameter.empty, name)
+
+    def test_first_number(self):
+        for name, call, arguments, first in samples():
+            answer = call(*arguments)
+            self.assertEqual(answer[0], first, (name, arguments))
+            if first != 0:
+                self.assertEqual(answer, [first], (name, arguments))
+
+    def test_arguments_by_name(self):
+        for name, call, arguments, first in samples():
+            self.assertEqual(call(**dict(zip(ARGUMENTS[name], arguments))), call(*arguments), (name, arguments))
+
+    def test_answer_is_a_list_of_whole_numbers(self):
+        for name, call, arguments, first in samples():
+            answer = call(*arguments)
+            self.assertIs(type(answer), list, name)
+            for number in answer:
+                self.assertIs(type(number), int, name)
+
+    def test_lists_handed_in_are_as_they_were(self):
+        for name, call, arguments, first in samples():
+            handed_in = copied(arguments)
+            call(*handed_in)
+            self.assertEqual(handed_in, copied(arguments), name)
+
+    def test_lists_handed_in_are_not_changed_for_a_while_either(self):
+        for name, call, arguments, first in samples():
+            guarded = [Unchangeable(x) if isinstance(x, list) else x for x in arguments]
+            self.assertEqual(call(*guarded), call(*arguments), name)
+
+    def test_answer_is_a_list_of_its_own(self):
+        for name, call, arguments, first in samples():
+            handed_in = copied(arguments)
+            answer = call(*handed_in)
+            answer.append(99)
+            answer[0] = 98
+            self.assertEqual(handed_in, copied(arguments), name)
+
+    def test_second_call_answers_as_the_first(self):
+        firsts = [list(call(*arguments)) for name, call, arguments, first in samples()]
+        for (name, call, arguments, first), kept in zip(samples(), firsts):
+            answer = call(*arguments)
+            self.assertEqual(answer, kept, name)
+            answer.append(99)
+            self.assertEqual(call(*arguments), kept, name)
+
+    def test_not_finite_part_at_any_place_comes_first(self):
+        for name, call, arguments, first in samples():
+            for which, argument in enumerate(arguments):
+                if not isinstance(argument, list):
+                    continue
+                for place in range(len(argument)):
+                    for part in NOT_FINITE:
+                        handed_in = copied(arguments)
+                        handed_in[which][place] = part
+                        self.assertEqual(call(*handed_in), [-2], (name, handed_in))
