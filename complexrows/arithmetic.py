@@ -7,6 +7,10 @@ def plus(x, y):
     return [add(x[0], y[0]), add(x[1], y[1])]
 
 
+def minus(x, y):
+    return [subtract(x[0], y[0]), subtract(x[1], y[1])]
+
+
 def times(x, y):
     p = x[0]
     q = x[1]

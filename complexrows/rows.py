@@ -5,8 +5,11 @@ A row is a list of parts' bits, two for each number, the real part's first.
 
 from complexrows.arithmetic import conjugate, divided_by, plus, times, turned
 from complexrows.doubles import NoFiniteResult, is_finite
+from complexrows.polynomials import value_at
+from complexrows.transforms import transformed
 
 MOST_NUMBERS = 4096
+GREATEST_TRANSFORM = 10
 
 
 def numbers_of(row):
@@ -63,3 +66,13 @@ def sum_of_products(a, b):
 
 def dot(a, b):
     return answer(not_too_long(a), [a, b], lambda: [sum_of_products(a, b)])
+
+
+def value(x, c):
+    in_range = len(c) > 0 and not_too_long(c)
+    return answer(in_range, [x, c], lambda: [value_at(x, numbers_of(c))])
+
+
+def transform(k, a, w):
+    in_range = 0 <= k <= GREATEST_TRANSFORM
+    return answer(in_range, [a, w], lambda: transformed(k, numbers_of(a), numbers_of(w)))

@@ -78,6 +78,10 @@ def machine_plus(x, y):
     return checked(x[0] + y[0]), checked(x[1] + y[1])
 
 
+def machine_minus(x, y):
+    return checked(x[0] - y[0]), checked(x[1] - y[1])
+
+
 def machine_times(x, y):
     (p, q), (r, s) = x, y
     return checked(checked(p * r) - checked(q * s)), checked(checked(p * s) + checked(q * r))
@@ -119,6 +123,23 @@ def machine_dot(a, b):
     for x, (r, t) in zip(a, b):
         s = machine_plus(s, machine_times(x, (r, -t)))
     return [s]
+
+
+def machine_value(x, c):
+    y = c[-1]
+    for term in reversed(c[:-1]):
+        y = machine_plus(machine_times(y, x[0]), term)
+    return [y]
+
+
+def machine_transform(a, w):
+    """Of 1, 2, 4 .. numbers. The halves are those at even and at odd places: so the bits turn round."""
+    if len(a) == 1:
+        return a
+    evens = machine_transform(a[0::2], w[0::2])
+    odds = machine_transform(a[1::2], w[0::2])
+    turned = [machine_times(x, y) for x, y in zip(w, odds)]
+    return [machine_plus(u, t) for u, t in zip(evens, turned)] + [machine_minus(u, t) for u, t in zip(evens, turned)]
 
 
 class Parts:
