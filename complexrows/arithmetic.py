@@ -21,12 +21,16 @@ def times(x, y):
     return [real, imaginary]
 
 
+def squared_size(x):
+    return add(multiply(x[0], x[0]), multiply(x[1], x[1]))
+
+
 def divided_by(x, y):
     p = x[0]
     q = x[1]
     r = y[0]
     s = y[1]
-    m = add(multiply(r, r), multiply(s, s))
+    m = squared_size(y)
     real = divide(add(multiply(p, r), multiply(q, s)), m)
     imaginary = divide(subtract(multiply(q, r), multiply(p, s)), m)
     return [real, imaginary]

@@ -5,11 +5,14 @@ A row is a list of parts' bits, two for each number, the real part's first.
 
 from complexrows.arithmetic import conjugate, divided_by, plus, times, turned
 from complexrows.doubles import NoFiniteResult, is_finite
-from complexrows.polynomials import value_at
+from complexrows.equations import NoPivot, solution
+from complexrows.polynomials import better_guesses, value_at
 from complexrows.transforms import transformed
 
 MOST_NUMBERS = 4096
 GREATEST_TRANSFORM = 10
+MOST_ROOTS = 16
+MOST_EQUATIONS = 8
 
 
 def numbers_of(row):
@@ -27,7 +30,7 @@ def all_finite(row):
     return all([is_finite(part) for part in row])
 
 
-# Compute answers with numbers. It is called last, as -2 comes ahead of -3.
+# Compute answers with numbers. It is called last, as -2 comes ahead of the other refusals.
 def answer(in_range, rows, compute):
     if not in_range or not all([all_finite(row) for row in rows]):
         return [-2]
@@ -35,6 +38,8 @@ def answer(in_range, rows, compute):
         return [0] + parts_of(compute())
     except NoFiniteResult:
         return [-3]
+    except NoPivot:
+        return [-1]
 
 
 def not_too_long(row):
@@ -76,3 +81,13 @@ def value(x, c):
 def transform(k, a, w):
     in_range = 0 <= k <= GREATEST_TRANSFORM
     return answer(in_range, [a, w], lambda: transformed(k, numbers_of(a), numbers_of(w)))
+
+
+def roots(c, z):
+    in_range = 1 <= len(z) // 2 <= MOST_ROOTS
+    return answer(in_range, [c, z], lambda: better_guesses(numbers_of(c), numbers_of(z)))
+
+
+def solve(a, b):
+    in_range = 1 <= len(b) // 2 <= MOST_EQUATIONS
+    return answer(in_range, [a, b], lambda: solution(numbers_of(a), numbers_of(b)))

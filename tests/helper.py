@@ -59,7 +59,11 @@ def either_sign(sizes):
 
 
 class Refused(Exception):
-    pass
+    """-3"""
+
+
+class ZeroColumn(Exception):
+    """-1"""
 
 
 def checked(x):
@@ -107,6 +111,8 @@ def expected(compute, *rows):
         numbers = compute(*[machine_numbers(parts) for parts in rows])
     except Refused:
         return [-3]
+    except ZeroColumn:
+        return [-1]
     return [0] + [bits(x) for number in numbers for x in number]
 
 
@@ -140,6 +146,45 @@ def machine_transform(a, w):
     odds = machine_transform(a[1::2], w[0::2])
     turned = [machine_times(x, y) for x, y in zip(w, odds)]
     return [machine_plus(u, t) for u, t in zip(evens, turned)] + [machine_minus(u, t) for u, t in zip(evens, turned)]
+
+
+def machine_roots(c, z):
+    for i in range(len(z)):
+        d = c[-1]
+        for other in z[:i] + z[i + 1:]:
+            d = machine_times(d, machine_minus(z[i], other))
+        v = machine_value([z[i]], c)[0]
+        z = z[:i] + [machine_minus(z[i], machine_by(v, d))] + z[i + 1:]
+    return z
+
+
+def machine_size(x):
+    return checked(checked(x[0] * x[0]) + checked(x[1] * x[1]))
+
+
+def machine_solve(a, b):
+    n = len(b)
+    a = [a[i * n:i * n + n] for i in range(n)]
+    b = list(b)
+    for k in range(n):
+        sizes = [machine_size(a[i][k]) for i in range(k, n)]
+        if max(sizes) == 0:
+            raise ZeroColumn()
+        taken = k + sizes.index(max(sizes))
+        a[k], a[taken] = a[taken], a[k]
+        b[k], b[taken] = b[taken], b[k]
+        for i in range(k + 1, n):
+            f = machine_by(a[i][k], a[k][k])
+            for j in range(k + 1, n):
+                a[i][j] = machine_minus(a[i][j], machine_times(f, a[k][j]))
+            b[i] = machine_minus(b[i], machine_times(f, b[k]))
+    x = {}
+    for i in reversed(range(n)):
+        s = b[i]
+        for j in range(i + 1, n):
+            s = machine_minus(s, machine_times(a[i][j], x[j]))
+        x[i] = machine_by(s, a[i][i])
+    return [x[i] for i in range(n)]
 
 
 class Parts:
