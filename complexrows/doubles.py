@@ -4,18 +4,14 @@ Sizes are counted in units. The unit is the least double above 0, 2 to the power
 so every finite double is a whole number of units and nothing is lost before the rounding.
 """
 
+from complexrows.rounding import NoFiniteResult, nearest
+
 SIGN = 0x8000000000000000
 INFINITY = 0x7FF0000000000000
 FRACTION = 0x000FFFFFFFFFFFFF
 LEADING_BIT = 0x0010000000000000
 FRACTION_BITS = 52
-SIGNIFICAND_BITS = 53
 UNIT_BITS = 1074
-
-
-# Also for a quotient by 0: no finite double is its result either.
-class NoFiniteResult(ArithmeticError):
-    pass
 
 
 def is_finite(x):
@@ -37,20 +33,8 @@ def signed_units(x):
     return units(x)
 
 
-# The double nearest to top by bottom units, of two as near the even one.
-# Top is not negative, bottom is above 0.
-def nearest(top, bottom):
-    shift = max(0, (top // bottom).bit_length() - SIGNIFICAND_BITS)
-    step = bottom << shift
-    steps = top // step
-    twice_rest = 2 * (top % step)
-    if twice_rest > step or (twice_rest == step and steps % 2 == 1):
-        steps = steps + 1
-    # Added, not joined: the leading bit, and a carry from the rounding, belong to the exponent.
-    bits = (shift << FRACTION_BITS) + steps
-    if bits >= INFINITY:
-        raise NoFiniteResult()
-    return bits
+def rounded(top, bottom):
+    return nearest(top, bottom, FRACTION_BITS, INFINITY)
 
 
 def add(x, y):
@@ -59,8 +43,8 @@ def add(x, y):
         # Of sums that are 0 only that of two negative zeros is negative.
         return x & y & SIGN
     if total < 0:
-        return SIGN | nearest(-total, 1)
-    return nearest(total, 1)
+        return SIGN | rounded(-total, 1)
+    return rounded(total, 1)
 
 
 # The sign alone is turned, also a zero's.
@@ -74,7 +58,7 @@ def subtract(x, y):
 
 def multiply(x, y):
     sign = (x ^ y) & SIGN
-    return sign | nearest(units(x) * units(y), 1 << UNIT_BITS)
+    return sign | rounded(units(x) * units(y), 1 << UNIT_BITS)
 
 
 def divide(x, y):
@@ -82,4 +66,4 @@ def divide(x, y):
     if divisor == 0:
         raise NoFiniteResult()
     sign = (x ^ y) & SIGN
-    return sign | nearest(units(x) << UNIT_BITS, divisor)
+    return sign | rounded(units(x) << UNIT_BITS, divisor)

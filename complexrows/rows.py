@@ -4,9 +4,11 @@ A row is a list of parts' bits, two for each number, the real part's first.
 """
 
 from complexrows.arithmetic import conjugate, divided_by, plus, times, turned
-from complexrows.doubles import NoFiniteResult, is_finite
+from complexrows.doubles import is_finite, signed_units
 from complexrows.equations import NoPivot, solution
+from complexrows.floats import narrowed
 from complexrows.polynomials import better_guesses, value_at
+from complexrows.rounding import NoFiniteResult
 from complexrows.transforms import transformed
 
 MOST_NUMBERS = 4096
@@ -91,3 +93,16 @@ def roots(c, z):
 def solve(a, b):
     in_range = 1 <= len(b) // 2 <= MOST_EQUATIONS
     return answer(in_range, [a, b], lambda: solution(numbers_of(a), numbers_of(b)))
+
+
+# In units a zero has no sign, so that zeros are the same.
+def place_in_order(x):
+    return (signed_units(x[0]), signed_units(x[1]))
+
+
+def sort(a):
+    return answer(not_too_long(a), [a], lambda: sorted(numbers_of(a), key=place_in_order))
+
+
+def narrow(a):
+    return answer(not_too_long(a), [a], lambda: [[narrowed(x[0]), narrowed(x[1])] for x in numbers_of(a)])

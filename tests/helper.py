@@ -50,6 +50,10 @@ def double(part):
     return struct.unpack("<d", struct.pack("<Q", part))[0]
 
 
+def float_bits(x):
+    return struct.unpack("<I", struct.pack("<f", x))[0]
+
+
 def row(*xs):
     return [bits(float(x)) for x in xs]
 

@@ -15,6 +15,8 @@ ARGUMENTS = {
     "transform": ["k", "a", "w"],
     "roots": ["c", "z"],
     "solve": ["a", "b"],
+    "sort": ["a"],
+    "narrow": ["a"],
 }
 
 # Of each call: what it is handed, and the number that it answers first.
@@ -68,6 +70,15 @@ SAMPLES = {
         ((row(1, 0, 2, 0, 2, 0, 4, 0), row(5, 0, 6, 0)), -1),
         ((row(1e200, 0, 2, 0, 2, 0, 4, 0), row(5, 0, 6, 0)), -3),
         (([], []), -2),
+    ],
+    "sort": [
+        ((row(3, 4, 1, 2, 3, -4, -0.0, 0),), 0),
+        (([],), 0),
+    ],
+    "narrow": [
+        ((row(3, 4, 0.1, -2, -0.0, 0),), 0),
+        (([],), 0),
+        ((row(3, 4, 1e300, -2, 0.5, 0),), -3),
     ],
 }
 

@@ -2,6 +2,7 @@ import math
 import unittest
 
 from complexrows import doubles
+from complexrows.rounding import NoFiniteResult
 from tests import helper
 from tests.helper import GREATEST, LEAST, MINUS_ZERO, NOT_FINITE, PLUS_ZERO, bits, double
 
@@ -16,7 +17,7 @@ OPERATIONS = [
 def answer(operation, x, y):
     try:
         return operation(x, y)
-    except doubles.NoFiniteResult:
+    except NoFiniteResult:
         return None
 
 
