@@ -1,30 +1,23 @@
 """Finite doubles, told by their bits, and the four operations on them, each rounded once.
 
 Sizes are counted in units. The unit is the least double above 0, 2 to the power of -1074,
-so every finite double is a whole number of units and nothing is lost before the rounding.
+so that nothing is lost before the rounding.
 """
 
-from complexrows.rounding import NoFiniteResult, nearest
+from complexrows.rounding import NoFiniteResult, has_finite_bits, nearest, units_of
 
 SIGN = 0x8000000000000000
 INFINITY = 0x7FF0000000000000
-FRACTION = 0x000FFFFFFFFFFFFF
-LEADING_BIT = 0x0010000000000000
 FRACTION_BITS = 52
 UNIT_BITS = 1074
 
 
 def is_finite(x):
-    # Infinities and NaNs are those whose exponent bits are all set.
-    return (x & INFINITY) != INFINITY
+    return has_finite_bits(x, INFINITY)
 
 
 def units(x):
-    exponent = (x & INFINITY) >> FRACTION_BITS
-    fraction = x & FRACTION
-    if exponent == 0:
-        return fraction
-    return (fraction + LEADING_BIT) << (exponent - 1)
+    return units_of(x, FRACTION_BITS, INFINITY)
 
 
 def signed_units(x):

@@ -1,7 +1,7 @@
-"""Finite floats, told by their bits, made of doubles."""
+"""Finite floats, told by their bits, made of doubles, and doubles made of them."""
 
-from complexrows.doubles import SIGN, UNIT_BITS, units
-from complexrows.rounding import nearest
+from complexrows.doubles import SIGN, UNIT_BITS, rounded, units
+from complexrows.rounding import has_finite_bits, nearest, units_of
 
 FLOAT_SIGN = 0x80000000
 FLOAT_INFINITY = 0x7F800000
@@ -10,8 +10,22 @@ FLOAT_FRACTION_BITS = 23
 FLOAT_UNIT_BITS = 149
 
 
+def is_finite_float(x):
+    return has_finite_bits(x, FLOAT_INFINITY)
+
+
 def narrowed(x):
-    size = nearest(units(x), 1 << (UNIT_BITS - FLOAT_UNIT_BITS), FLOAT_FRACTION_BITS, FLOAT_INFINITY)
+    float_unit = 1 << (UNIT_BITS - FLOAT_UNIT_BITS)
+    size = nearest(units(x), float_unit, FLOAT_FRACTION_BITS, FLOAT_INFINITY)
     if x & SIGN:
         return FLOAT_SIGN | size
     return size
+
+
+# Every float is a double too, so that the rounding loses nothing.
+def widened(x):
+    size = units_of(x, FLOAT_FRACTION_BITS, FLOAT_INFINITY)
+    bits = rounded(size << (UNIT_BITS - FLOAT_UNIT_BITS), 1)
+    if x & FLOAT_SIGN:
+        return SIGN | bits
+    return bits

@@ -6,7 +6,7 @@ A row is a list of parts' bits, two for each number, the real part's first.
 from complexrows.arithmetic import conjugate, divided_by, plus, times, turned
 from complexrows.doubles import is_finite, signed_units
 from complexrows.equations import NoPivot, solution
-from complexrows.floats import narrowed
+from complexrows.floats import is_finite_float, narrowed, widened
 from complexrows.polynomials import better_guesses, value_at
 from complexrows.rounding import NoFiniteResult
 from complexrows.transforms import transformed
@@ -44,7 +44,7 @@ def answer(in_range, rows, compute):
         return [-1]
 
 
-def not_too_long(row):
+def short_enough(row):
     return len(row) // 2 <= MOST_NUMBERS
 
 
@@ -53,15 +53,15 @@ def one_by_one(operation, a, b):
 
 
 def product(a, b):
-    return answer(not_too_long(a), [a, b], lambda: one_by_one(times, a, b))
+    return answer(short_enough(a), [a, b], lambda: one_by_one(times, a, b))
 
 
 def quotient(a, b):
-    return answer(not_too_long(a), [a, b], lambda: one_by_one(divided_by, a, b))
+    return answer(short_enough(a), [a, b], lambda: one_by_one(divided_by, a, b))
 
 
 def turn(k, a):
-    return answer(not_too_long(a), [a], lambda: [turned(x, k % 4) for x in numbers_of(a)])
+    return answer(short_enough(a), [a], lambda: [turned(x, k % 4) for x in numbers_of(a)])
 
 
 def sum_of_products(a, b):
@@ -72,11 +72,11 @@ def sum_of_products(a, b):
 
 
 def dot(a, b):
-    return answer(not_too_long(a), [a, b], lambda: [sum_of_products(a, b)])
+    return answer(short_enough(a), [a, b], lambda: [sum_of_products(a, b)])
 
 
 def value(x, c):
-    in_range = len(c) > 0 and not_too_long(c)
+    in_range = len(c) > 0 and short_enough(c)
     return answer(in_range, [x, c], lambda: [value_at(x, numbers_of(c))])
 
 
@@ -101,8 +101,14 @@ def place_in_order(x):
 
 
 def sort(a):
-    return answer(not_too_long(a), [a], lambda: sorted(numbers_of(a), key=place_in_order))
+    return answer(short_enough(a), [a], lambda: sorted(numbers_of(a), key=place_in_order))
 
 
 def narrow(a):
-    return answer(not_too_long(a), [a], lambda: [[narrowed(x[0]), narrowed(x[1])] for x in numbers_of(a)])
+    return answer(short_enough(a), [a], lambda: [[narrowed(x[0]), narrowed(x[1])] for x in numbers_of(a)])
+
+
+def widen(a):
+    if not short_enough(a) or not all([is_finite_float(part) for part in a]):
+        return [-2]
+    return [0] + [widened(part) for part in a]

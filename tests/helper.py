@@ -20,6 +20,21 @@ NOT_FINITE = [
     0x7FF4000000000123,
 ]
 
+FLOAT_MINUS_ZERO = 0x80000000
+GREATEST_FLOAT = 0x7F7FFFFF
+
+NOT_FINITE_FLOATS = [
+    0x7F800000,  # infinity
+    0xFF800000,
+    0x7FC00000,  # quiet NaNs
+    0xFFC00000,
+    0x7F800001,  # signalling NaNs
+    0xFF800001,
+    0x7FFFFFFF,
+    0xFFFFFFFF,
+    0x7FA00123,
+]
+
 # Sizes at which something changes: zeros, subnormals, ties, squares that vanish or overflow.
 SIZES = [
     0x0000000000000000,

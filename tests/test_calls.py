@@ -1,10 +1,16 @@
 """What holds of every call alike: its arguments, its kinds, and what it leaves as it was."""
 
+import contextlib
 import inspect
+import io
+import pathlib
+import subprocess
+import sys
 import unittest
+from unittest import mock
 
 from complexrows import rows
-from tests.helper import NOT_FINITE, row
+from tests.helper import NOT_FINITE, NOT_FINITE_FLOATS, row
 
 ARGUMENTS = {
     "product": ["a", "b"],
@@ -17,6 +23,7 @@ ARGUMENTS = {
     "solve": ["a", "b"],
     "sort": ["a"],
     "narrow": ["a"],
+    "widen": ["a"],
 }
 
 # Of each call: what it is handed, and the number that it answers first.
@@ -80,7 +87,28 @@ SAMPLES = {
         (([],), 0),
         ((row(3, 4, 1e300, -2, 0.5, 0),), -3),
     ],
+    "widen": [
+        (([0x3F800000, 0xC0000000, 0x00000001, 0x80000000],), 0),
+        (([],), 0),
+    ],
 }
+
+
+# What reads, prints or imports; the name of an event begins with one of these.
+NOT_ALLOWED_EVENTS = ("open", "import", "exec", "compile", "os.", "socket.", "subprocess.", "builtins.input")
+
+
+class Watch:
+    """Keeps the events of the interpreter while it is on. A hook can't be taken off again."""
+
+    def __init__(self):
+        self.on = False
+        self.seen = []
+        sys.addaudithook(self.hook)
+
+    def hook(self, event, arguments):
+        if self.on and event.startswith(NOT_ALLOWED_EVENTS):
+            self.seen.append(event)
 
 
 class Unchangeable(list):
@@ -97,6 +125,17 @@ def samples():
     for name in SAMPLES:
         for arguments, first in SAMPLES[name]:
             yield name, getattr(rows, name), arguments, first
+
+
+def kept_values():
+    """What the package's modules hold, as text."""
+    held = {}
+    for name, module in sys.modules.items():
+        if name.split(".")[0] == "complexrows":
+            held[name] = sorted(
+                (key, repr(kept)) for key, kept in vars(module).items() if not key.startswith("__")
+            )
+    return held
 
 
 def copied(arguments):
@@ -165,7 +204,43 @@ class EveryCallTest(unittest.TestCase):
                 if not isinstance(argument, list):
                     continue
                 for place in range(len(argument)):
-                    for part in NOT_FINITE:
+                    for part in NOT_FINITE_FLOATS if name == "widen" else NOT_FINITE:
                         handed_in = copied(arguments)
                         handed_in[which][place] = part
                         self.assertEqual(call(*handed_in), [-2], (name, handed_in))
+
+    def test_nothing_is_printed(self):
+        printed = io.StringIO()
+        with contextlib.redirect_stdout(printed), contextlib.redirect_stderr(printed):
+            for name, call, arguments, first in samples():
+                call(*arguments)
+        self.assertEqual(printed.getvalue(), "")
+
+    def test_nothing_is_read_or_imported(self):
+        watch = Watch()
+        modules = set(sys.modules)
+        with mock.patch.object(sys, "stdin", None):
+            watch.on = True
+            for name, call, arguments, first in samples():
+                call(*arguments)
+            watch.on = False
+        self.assertEqual(watch.seen, [])
+        self.assertEqual(set(sys.modules), modules)
+
+    def test_the_program_alone_is_loaded_with_it(self):
+        source = (
+            "import sys; sys.path.insert(0, sys.argv[1]); before = set(sys.modules); import complexrows.rows;"
+            " print(*sorted(set(sys.modules) - before))"
+        )
+        top = str(pathlib.Path(__file__).resolve().parent.parent)
+        command = [sys.executable, "-I", "-S", "-B", "-c", source, top]
+        loaded = subprocess.run(command, capture_output=True, text=True, check=True)
+        self.assertEqual(loaded.stderr, "")
+        self.assertEqual([name for name in loaded.stdout.split() if name.split(".")[0] != "complexrows"], [])
+        self.assertIn("complexrows.rows", loaded.stdout.split())
+
+    def test_nothing_is_kept(self):
+        before = kept_values()
+        for name, call, arguments, first in samples():
+            call(*arguments)
+            self.assertEqual(kept_values(), before, name)

@@ -1,6 +1,7 @@
 """The package's own files keep to the plain part of Python they are to be written in."""
 
 import ast
+import builtins
 import pathlib
 import re
 import unittest
@@ -27,6 +28,13 @@ BUILTINS = set(
     " isinstance ord repr any all divmod Exception ValueError TypeError KeyError IndexError LookupError"
     " ZeroDivisionError ArithmeticError OverflowError RuntimeError NotImplementedError AttributeError"
     " StopIteration".split()
+)
+
+
+METHODS = set(
+    "append clear copy count endswith extend find get index insert isalnum isalpha isdigit islower isspace isupper"
+    " items join keys ljust lower lstrip partition pop remove replace reverse rfind rjust rpartition rsplit rstrip"
+    " setdefault split splitlines startswith strip update upper values zfill bit_length".split()
 )
 
 
@@ -85,3 +93,46 @@ class FormTest(unittest.TestCase):
             self.assertEqual([name for name in bound if name.startswith("_")], [], path)
             read = {node.id for node in ast.walk(tree) if isinstance(node, ast.Name)}
             self.assertLessEqual(read - bound, BUILTINS, path)
+
+    def test_no_name_of_python_has_another_meaning(self):
+        for path in files():
+            bound = bound_names(ast.parse(path.read_text(encoding="utf-8")))
+            self.assertEqual(sorted(bound & set(dir(builtins))), [], path)
+
+    def test_methods(self):
+        for path in files():
+            for node in ast.walk(ast.parse(path.read_text(encoding="utf-8"))):
+                if isinstance(node, ast.Attribute):
+                    self.assertIn(node.attr, METHODS, (path.name, node.lineno))
+
+    def test_names_of_the_top_are_bound_once_and_not_as_locals(self):
+        for path in files():
+            tree = ast.parse(path.read_text(encoding="utf-8"))
+            tops = []
+            for node in tree.body:
+                if isinstance(node, ast.ImportFrom):
+                    tops += [alias.name for alias in node.names]
+                elif isinstance(node, (ast.FunctionDef, ast.ClassDef)):
+                    tops.append(node.name)
+                elif isinstance(node, ast.Assign):
+                    tops += [target.id for target in node.targets]
+            self.assertEqual(sorted(tops), sorted(set(tops)), path)
+            within = set()
+            for node in ast.walk(tree):
+                if isinstance(node, ast.FunctionDef):
+                    within |= bound_names(node) - {node.name}
+            self.assertEqual(sorted(within & set(tops)), [], path)
+
+    def test_names_come_from_the_files_that_define_them(self):
+        defined = {}
+        for path in files():
+            tree = ast.parse(path.read_text(encoding="utf-8"))
+            names = [node.name for node in tree.body if isinstance(node, (ast.FunctionDef, ast.ClassDef))]
+            names += [target.id for node in tree.body if isinstance(node, ast.Assign) for target in node.targets]
+            defined["complexrows." + path.stem] = names
+        for path in files():
+            for node in ast.walk(ast.parse(path.read_text(encoding="utf-8"))):
+                if isinstance(node, ast.ImportFrom):
+                    for alias in node.names:
+                        self.assertIn(alias.name, defined[node.module], path)
+                        self.assertIsNone(alias.asname, path)

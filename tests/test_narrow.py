@@ -2,10 +2,10 @@ import unittest
 
 from complexrows.rows import narrow
 from tests import helper
-from tests.helper import GREATEST, LEAST, MINUS_ZERO, NOT_FINITE, PLUS_ZERO, bits, row
+from tests.helper import (
+    FLOAT_MINUS_ZERO, GREATEST, GREATEST_FLOAT, LEAST, MINUS_ZERO, NOT_FINITE, PLUS_ZERO, bits, row,
+)
 
-FLOAT_MINUS_ZERO = 0x80000000
-GREATEST_FLOAT = 0x7F7FFFFF
 FLOAT_ONE = 0x3F800000
 
 
